@@ -375,13 +375,6 @@ func TestTariffsAreNotChanged(t *testing.T) {
 	}
 }
 
-// fill writes a number into all memory of a list.
-func fill(list []int, n int) {
-	for i := range list[:cap(list)] {
-		list[:cap(list)][i] = n
-	}
-}
-
 func TestFairPricesAreNewMemory(t *testing.T) {
 	for _, a := range tariffs() {
 		a = spareTariff(a)
