@@ -405,11 +405,7 @@ func gateCalls(g impl.Gate, d impl.Deny) (map[string]impl.Gate, map[string][]imp
 
 // anyGates returns validators that are valid or not.
 func anyGates() []impl.Gate {
-	list := gates()
-	for _, g := range invalidGates() {
-		list = append(list, g)
-	}
-	return list
+	return withInvalid(gates(), invalidGates())
 }
 
 func TestValidatorsChangeNothing(t *testing.T) {

@@ -435,11 +435,7 @@ func TestApplyDeltaOfInvalidArguments(t *testing.T) {
 
 // anyDenies returns deny lists that are valid or not.
 func anyDenies() []impl.Deny {
-	lists := denyLists()
-	for _, d := range invalidDenies() {
-		lists = append(lists, d)
-	}
-	return lists
+	return withInvalid(denyLists(), invalidDenies())
 }
 
 // writeOverDenies calls every function of the chapter, and writes over the results.

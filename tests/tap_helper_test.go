@@ -1,6 +1,7 @@
 package tests
 
 import (
+	"maps"
 	"math"
 	"slices"
 
@@ -83,6 +84,11 @@ func collected(list []impl.Tap) []impl.Tap {
 // without returns a list without one of its elements.
 func without[T any](list []T, i int) []T {
 	return slices.Delete(slices.Clone(list), i, i+1)
+}
+
+// withInvalid returns values that are valid, and then those that are not.
+func withInvalid[T any](valid []T, invalid map[string]T) []T {
+	return slices.AppendSeq(valid, maps.Values(invalid))
 }
 
 // turned returns a list in reverse order.
